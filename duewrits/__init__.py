@@ -1,0 +1,1 @@
+"""Duewrits: dues and grants by written rules, twice dated."""
