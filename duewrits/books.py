@@ -14,12 +14,18 @@ class Book:
         self._entries = []
         # The day on which each entry was struck, by the entry's index.
         self._struck = {}
+        # The parsed text of each enactment, by its index: readings ask for it often.
+        self._amounts = {}
 
     def enter(self, entry):
         """Take an entry, or raise the error that is due and take nothing."""
         self._check_turn(entry[1])
-        self._check_content(entry)
-        if entry[0] == "strike":
+        if entry[0] == "report":
+            check_report(entry)
+        elif entry[0] == "enact":
+            self._amounts[len(self._entries)] = checked_amount(entry)
+        else:
+            self._check_strike(entry[2])
             self._struck[entry[2]] = entry[1]
         self._entries.append(tuple(entry))
 
@@ -34,14 +40,6 @@ class Book:
             raise NotAllowed("the entry came on no day")
         if self._entries and came < self._entries[-1][1]:
             raise NotAllowed("the entry came before the last one")
-
-    def _check_content(self, entry):
-        if entry[0] == "report":
-            check_report(entry)
-        elif entry[0] == "enact":
-            check_enactment(entry)
-        else:
-            self._check_strike(entry[2])
 
     def _check_strike(self, index):
         if not 0 <= index < len(self._entries):
@@ -62,13 +60,14 @@ def check_report(entry):
     check_span(span)
 
 
-def check_enactment(entry):
-    """Raise what is due for an enactment, its day and its turn aside."""
+def checked_amount(entry):
+    """Return an enactment's parsed text, or raise what is due, its day and its turn aside."""
     rule, text, span = entry[2:]
     if not is_name(rule):
         raise NotAllowed("the rule is no name")
-    parse_amount(text)
+    amount = parse_amount(text)
     check_span(span)
+    return amount
 
 
 def check_span(span):
@@ -111,6 +110,16 @@ def holds(book, index, day, known):
     """Return whether a report or an enactment stands and its span has the day."""
     first, after = book._entries[index][-1]
     return first <= day < after and stands(book, index, known)
+
+
+def value_of(book, index):
+    """Return the value that the report of this index tells."""
+    return book._entries[index][4]
+
+
+def amount_of(book, index):
+    """Return the expression that the text of the enactment of this index writes."""
+    return book._amounts[index]
 
 
 def book_of(entries):

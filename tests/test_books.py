@@ -1,6 +1,6 @@
 import unittest
 
-from duewrits.books import Book, book_of, fact_at, rule_at, stands
+from duewrits.books import Book, amount_of, book_of, fact_at, rule_at, stands, value_of
 from duewrits.errors import BadText, NotAllowed, WritError
 
 ALL = (0, 10000)
@@ -363,6 +363,21 @@ class CopiesTest(BookCase):
         with self.assertRaises(BadText):
             book_of(refused)
         self.assertEqual(refused, [report(), enact(text="plus")])
+
+
+class ContentTest(BookCase):
+    def test_values_and_parsed_texts_by_their_indexes(self):
+        entries = [report(value=-3), enact(text=" plus 1  2"), strike(5, 0), enact(text="due more"), report(value=0)]
+        book = book_of(entries)
+        self.assertEqual([value_of(book, at) for at in (0, 4)], [-3, 0])
+        self.assertEqual(amount_of(book, 1), ("plus", ("number", 1), ("number", 2)))
+        self.assertEqual(amount_of(book, 3), ("due", "more"))
+
+    def test_a_refused_enactment_leaves_no_text(self):
+        book = Book()
+        self.assertRefused(book, enact(text="7", span=(5, 5)))
+        book.enter(enact(text="8"))
+        self.assertEqual(amount_of(book, 0), ("number", 8))
 
 
 class ExampleTest(unittest.TestCase):
