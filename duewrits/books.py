@@ -128,3 +128,13 @@ def book_of(entries):
     for entry in entries:
         book.enter(entry)
     return book
+
+
+def book_with(book, entry):
+    """Return a new book with the entries of this one that took another entry."""
+    grown = Book()
+    grown._entries = list(book._entries)
+    grown._struck = dict(book._struck)
+    grown._amounts = dict(book._amounts)
+    grown.enter(entry)
+    return grown

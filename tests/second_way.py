@@ -127,6 +127,18 @@ def decide_second(entries, question):
         return stopped.args, reading.dossier
 
 
+def total_second(entries, claim, known):
+    """The total, day by day."""
+    person, rule, span = claim
+    found = 0
+    for day in range(*span):
+        decision = decide_second(entries, (person, rule, day, known))[0]
+        if decision[0] != "amount":
+            return "stopped", day, decision
+        found += decision[1]
+    return "total", found
+
+
 # Random books and texts, the same in every run: the caller passes a seeded source.
 
 PERSONS = ["ann", "bob"]
@@ -206,6 +218,10 @@ def random_entries(source, many):
         else:
             entries.append(random_enactment(source, came, source.choice(RULES), random_span(source)))
     return entries
+
+
+def random_claim(source):
+    return source.choice(PERSONS), source.choice(RULES[:4]), random_span(source)
 
 
 def random_question(source):

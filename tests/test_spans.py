@@ -4,7 +4,7 @@ import unittest
 from duewrits.books import book_of
 from duewrits.decisions import decide
 from duewrits.spans import course, total
-from second_way import DAYS, PERSONS, RULES, decide_second, random_entries, random_span
+from second_way import DAYS, decide_second, random_claim, random_entries, total_second
 
 ALL = (0, 10000)
 
@@ -167,7 +167,7 @@ class EachDayTest(unittest.TestCase):
         for seed in range(400):
             source = random.Random(seed)
             entries = random_entries(source, source.choice([3, 10, 20]))
-            claim = (source.choice(PERSONS), source.choice(RULES[:4]), random_span(source))
+            claim = random_claim(source)
             self.check(entries, claim, source.randrange(DAYS))
 
     def check(self, entries, claim, known):
@@ -179,11 +179,7 @@ class EachDayTest(unittest.TestCase):
         self.assertEqual([run[0] for run in found] + [after], [first] + [run[1] for run in found])
         for run, following in zip(found, found[1:]):
             self.assertNotEqual(run[2], following[2])
-        stops = [(first + at, decision) for at, decision in enumerate(days) if decision[0] != "amount"]
-        if stops:
-            self.assertEqual(total(book, claim, known), ("stopped",) + stops[0])
-        else:
-            self.assertEqual(total(book, claim, known), ("total", sum([decision[1] for decision in days])))
+        self.assertEqual(total(book, claim, known), total_second(entries, claim, known))
 
     def test_a_long_span_day_by_day(self):
         entries = [enact("plus fact age fact kids or 3")]
